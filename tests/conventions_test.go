@@ -1,0 +1,253 @@
+package tests
+
+import (
+	"math/rand/v2"
+	"reflect"
+	"slices"
+	"sync"
+	"testing"
+
+	"loop.example/processengine/impl"
+)
+
+// withRoom returns a copy of a list with room behind its end, filled with a mark that no call may change.
+func withRoom[T any](list []T, mark T) []T {
+	room := append(slices.Clone(list), mark, mark, mark)
+	return room[:len(list)]
+}
+
+// sameRoom reports whether a list and the room behind its end are as withRoom made them.
+func sameRoom[T comparable](list []T, before []T, mark T) bool {
+	if !slices.Equal(list, before) {
+		return false
+	}
+	behind := list[len(list) : len(list)+3]
+	return slices.Equal(behind, []T{mark, mark, mark})
+}
+
+// copyProcess returns a process that shares no memory with another one.
+func copyProcess(p impl.Process) impl.Process {
+	q := impl.Process{Nodes: slices.Clone(p.Nodes), Flows: slices.Clone(p.Flows)}
+	for i := range q.Flows {
+		q.Flows[i].When = slices.Clone(q.Flows[i].When)
+	}
+	return q
+}
+
+// spoil writes over a list, and over all the room behind its end.
+func spoil[T any](list []T, mark T) {
+	list = list[:cap(list)]
+	for i := range list {
+		list[i] = mark
+	}
+}
+
+// answers are the results of all functions of a chapter for some arguments.
+type answers struct {
+	valid bool
+	value int
+	ok    bool
+	parts []impl.Part
+	lists [][]int
+}
+
+func askCondition(c []impl.Part, v []int) answers {
+	a := answers{valid: impl.ValidCondition(c), value: impl.EvalCondition(c, v)}
+	a.lists = append(a.lists, impl.UsedVariables(c))
+	a.parts, a.ok = impl.NotCondition(c)
+	return a
+}
+
+func askProcess(p impl.Process) answers {
+	a := answers{valid: impl.ValidProcess(p), ok: impl.HasCircle(p)}
+	for i := range p.Nodes {
+		a.lists = append(a.lists, impl.FlowsOut(p, i), impl.FlowsIn(p, i))
+	}
+	a.lists = append(a.lists, impl.Reachable(p))
+	return a
+}
+
+func (a answers) spoil() {
+	spoil(a.parts, impl.Part{Kind: -7, Value: -7})
+	for _, list := range a.lists {
+		spoil(list, -7)
+	}
+}
+
+// sameAnswers reports whether results are the same, where a nil slice is an empty one.
+func sameAnswers(a answers, b answers) bool {
+	return a.valid == b.valid && a.value == b.value && a.ok == b.ok && slices.Equal(a.parts, b.parts) && slices.EqualFunc(a.lists, b.lists, slices.Equal)
+}
+
+// copied returns results that share no memory with others.
+func (a answers) copied() answers {
+	b := a
+	b.parts = slices.Clone(a.parts)
+	b.lists = nil
+	for _, list := range a.lists {
+		b.lists = append(b.lists, slices.Clone(list))
+	}
+	return b
+}
+
+func TestConditionFunctionsLeaveTheirArguments(t *testing.T) {
+	mark := impl.Part{Kind: -5, Value: -5}
+	r := newRandom(6)
+	for i := range 2000 {
+		c, v := randomCondition(r, impl.MaxParts), randomValues(r)
+		if i%4 == 0 {
+			c = append(c, number(1)) // one that is not valid
+		}
+		c2, v2 := withRoom(c, mark), withRoom(v, -5)
+		first := askCondition(c2, v2)
+		if !sameRoom(c2, c, mark) || !sameRoom(v2, v, -5) {
+			t.Fatalf("arguments %v and %v have become %v and %v", c, v, c2, v2)
+		}
+		want := first.copied()
+		first.spoil()
+		if !sameRoom(c2, c, mark) || !sameRoom(v2, v, -5) {
+			t.Fatalf("a result shares memory with an argument of %v, %v", c, v)
+		}
+		if !sameAnswers(askCondition(c2, v2), want) {
+			t.Fatalf("the second results for %v, %v differ", c, v)
+		}
+	}
+}
+
+func TestModelFunctionsLeaveTheirArguments(t *testing.T) {
+	node, part := impl.Node{Kind: -5, Value: -5}, impl.Part{Kind: -5, Value: -5}
+	for _, p := range slices.Concat(someProcesses(), badProcesses()) {
+		q := copyProcess(p)
+		q.Nodes = withRoom(q.Nodes, node)
+		q.Flows = append(q.Flows, impl.Flow{From: -5})[:len(q.Flows)]
+		for i := range q.Flows {
+			q.Flows[i].When = withRoom(q.Flows[i].When, part)
+		}
+		first := askProcess(q)
+		want := first.copied()
+		first.spoil()
+		if !sameRoom(q.Nodes, p.Nodes, node) || q.Flows[:len(q.Flows)+1][len(q.Flows)].From != -5 {
+			t.Fatalf("nodes or flows of %v are changed", p)
+		}
+		for i := range p.Flows {
+			f := q.Flows[i]
+			if f.From != p.Flows[i].From || f.To != p.Flows[i].To || !sameRoom(f.When, p.Flows[i].When, part) {
+				t.Fatalf("the flow %d of %v is changed", i, p)
+			}
+		}
+		if !sameAnswers(askProcess(q), want) {
+			t.Fatalf("the second results for %v differ", p)
+		}
+	}
+}
+
+func TestResultsShareNoMemory(t *testing.T) {
+	for _, p := range someProcesses() {
+		a := askProcess(p)
+		for i := range a.lists {
+			b := askProcess(p)
+			want := b.copied()
+			spoil(b.lists[i], -7)
+			b.lists[i] = want.lists[i]
+			if !sameAnswers(b, want) {
+				t.Fatalf("%v: the result %d shares memory with another one", p, i)
+			}
+		}
+	}
+	c := parts(variable(2), variable(1), operator(impl.PartAdd))
+	one, _ := impl.NotCondition(c)
+	two, _ := impl.NotCondition(c)
+	spoil(one, impl.Part{Kind: -7})
+	c[0] = number(5)
+	if !reflect.DeepEqual(two, parts(variable(2), variable(1), operator(impl.PartAdd), operator(impl.PartNot))) {
+		t.Errorf("NotCondition shares memory: %v", two)
+	}
+	c = parts(variable(2), variable(1), operator(impl.PartAdd))
+	used := impl.UsedVariables(c)
+	spoil(impl.UsedVariables(c), -7)
+	wantList(t, "UsedVariables", used, 1, 2)
+}
+
+func TestEmptyAndNilAreTheSame(t *testing.T) {
+	if !sameAnswers(askCondition(nil, nil), askCondition([]impl.Part{}, []int{})) {
+		t.Error("an empty condition is not as none")
+	}
+	if !sameAnswers(askProcess(impl.Process{}), askProcess(impl.Process{Nodes: []impl.Node{}, Flows: []impl.Flow{}})) {
+		t.Error("an empty process is not as none")
+	}
+	for _, p := range someProcesses() {
+		q := copyProcess(p)
+		for i := range q.Flows {
+			if len(q.Flows[i].When) == 0 {
+				q.Flows[i].When = []impl.Part{}
+			}
+		}
+		if !sameAnswers(askProcess(p), askProcess(q)) {
+			t.Fatalf("empty conditions of %v are not as none", p)
+		}
+	}
+}
+
+func anyNumber(r *rand.Rand) int {
+	if r.IntN(3) == 0 {
+		return extremes[r.IntN(len(extremes))]
+	}
+	return r.IntN(12) - 1
+}
+
+func anyCondition(r *rand.Rand) []impl.Part {
+	var c []impl.Part
+	for range r.IntN(16) {
+		c = append(c, impl.Part{Kind: anyNumber(r), Value: anyNumber(r)})
+	}
+	return c
+}
+
+// TestFunctionsReturnForEveryArgument fails by a panic, or by its time, if they do not.
+func TestFunctionsReturnForEveryArgument(t *testing.T) {
+	r := newRandom(7)
+	for range 50000 {
+		c := anyCondition(r)
+		var v []int
+		for range r.IntN(7) {
+			v = append(v, anyNumber(r))
+		}
+		if a := askCondition(c, v); a.valid != wantedValid(c) || a.value != wantedValue(c, v) {
+			t.Fatalf("conditions: %v with %v", c, v)
+		}
+		var p impl.Process
+		for range r.IntN(13) {
+			p.Nodes = append(p.Nodes, impl.Node{Kind: anyNumber(r), Value: anyNumber(r)})
+		}
+		for range r.IntN(17) {
+			p.Flows = append(p.Flows, impl.Flow{From: anyNumber(r), To: anyNumber(r), When: anyCondition(r)})
+		}
+		askProcess(p)
+		impl.FlowsOut(p, anyNumber(r))
+		impl.FlowsIn(p, anyNumber(r))
+		if _, want := wantedProcess(p); impl.ValidProcess(p) != want {
+			t.Fatalf("ValidProcess(%v) = %v", p, !want)
+		}
+	}
+}
+
+// TestCallsAtTheSameTime fails if a call keeps something for the next one, or for one beside it.
+func TestCallsAtTheSameTime(t *testing.T) {
+	list := someProcesses()[:200]
+	want := make([]answers, len(list))
+	for i, p := range list {
+		want[i] = askProcess(p)
+	}
+	var group sync.WaitGroup
+	for k := range 8 {
+		group.Go(func() {
+			for i := range list {
+				j := (i*7 + k*31) % len(list)
+				if !sameAnswers(askProcess(list[j]), want[j]) {
+					t.Errorf("results for %v differ", list[j])
+				}
+			}
+		})
+	}
+	group.Wait()
+}
