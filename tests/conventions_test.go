@@ -67,6 +67,36 @@ func askProcess(p impl.Process) answers {
 	return a
 }
 
+// askTokens asks about tokens, and about one node with values.
+func askTokens(p impl.Process, marks []int, node int, v []int) answers {
+	a := answers{value: impl.TokenCount(p, marks)}
+	a.lists = append(a.lists, impl.FirstMarks(p), impl.ReadyNodes(p, marks), []int{impl.ChooseFlow(p, node, v)})
+	next, ok := impl.FireNode(p, marks, node, v)
+	a.ok = ok
+	a.lists = append(a.lists, next)
+	return a
+}
+
+func askSound(p impl.Process) answers {
+	a := answers{valid: impl.IsSound(p)}
+	a.lists, a.ok = impl.AllMarks(p)
+	a.value = len(a.lists)
+	a.lists = append(a.lists, impl.StuckMarks(p)...)
+	a.lists = append(a.lists, impl.NeverReady(p))
+	return a
+}
+
+// askAll asks about a process with tokens in all chapters.
+func askAll(p impl.Process, marks []int, node int, v []int) answers {
+	a, b, c := askProcess(p), askTokens(p, marks, node, v), askSound(p)
+	return answers{
+		valid: a.valid && c.valid,
+		value: b.value*100 + c.value,
+		ok:    b.ok,
+		lists: slices.Concat(a.lists, b.lists, c.lists, [][]int{{bit(a.valid), bit(a.ok), bit(c.valid), bit(c.ok)}}),
+	}
+}
+
 func (a answers) spoil() {
 	spoil(a.parts, impl.Part{Kind: -7, Value: -7})
 	for _, list := range a.lists {
@@ -114,30 +144,80 @@ func TestConditionFunctionsLeaveTheirArguments(t *testing.T) {
 	}
 }
 
-func TestModelFunctionsLeaveTheirArguments(t *testing.T) {
-	node, part := impl.Node{Kind: -5, Value: -5}, impl.Part{Kind: -5, Value: -5}
-	for _, p := range slices.Concat(someProcesses(), badProcesses()) {
-		q := copyProcess(p)
-		q.Nodes = withRoom(q.Nodes, node)
-		q.Flows = append(q.Flows, impl.Flow{From: -5})[:len(q.Flows)]
-		for i := range q.Flows {
-			q.Flows[i].When = withRoom(q.Flows[i].When, part)
+// roomyProcess returns a copy of a process with room behind each of its lists, filled with marks that no call may change.
+func roomyProcess(p impl.Process) impl.Process {
+	q := copyProcess(p)
+	q.Nodes = withRoom(q.Nodes, impl.Node{Kind: -5, Value: -5})
+	q.Flows = append(q.Flows, impl.Flow{From: -5})[:len(q.Flows)]
+	for i := range q.Flows {
+		q.Flows[i].When = withRoom(q.Flows[i].When, impl.Part{Kind: -5, Value: -5})
+	}
+	return q
+}
+
+// wantRoomy fails if a process is not as roomyProcess made it of another one.
+func wantRoomy(t *testing.T, q impl.Process, p impl.Process) {
+	t.Helper()
+	if !sameRoom(q.Nodes, p.Nodes, impl.Node{Kind: -5, Value: -5}) || q.Flows[:len(q.Flows)+1][len(q.Flows)].From != -5 {
+		t.Fatalf("nodes or flows of %v are changed", p)
+	}
+	for i, w := range p.Flows {
+		f := q.Flows[i]
+		if f.From != w.From || f.To != w.To || !sameRoom(f.When, w.When, impl.Part{Kind: -5, Value: -5}) {
+			t.Fatalf("the flow %d of %v is changed", i, p)
 		}
-		first := askProcess(q)
+	}
+}
+
+func TestModelFunctionsLeaveTheirArguments(t *testing.T) {
+	r := newRandom(10)
+	for _, p := range slices.Concat(tokenProcesses(), badProcesses()) {
+		marks, v, node := randomMarks(r, p), smallValues(r), r.IntN(len(p.Nodes)+1)
+		if ready := impl.ReadyNodes(p, marks); len(ready) > 0 && r.IntN(4) > 0 {
+			node = ready[r.IntN(len(ready))]
+		}
+		q, marks2, v2 := roomyProcess(p), withRoom(marks, -5), withRoom(v, -5)
+		first := askAll(q, marks2, node, v2)
 		want := first.copied()
 		first.spoil()
-		if !sameRoom(q.Nodes, p.Nodes, node) || q.Flows[:len(q.Flows)+1][len(q.Flows)].From != -5 {
-			t.Fatalf("nodes or flows of %v are changed", p)
+		wantRoomy(t, q, p)
+		if !sameRoom(marks2, marks, -5) || !sameRoom(v2, v, -5) {
+			t.Fatalf("%v: tokens %v and values %v have become %v and %v", p, marks, v, marks2, v2)
 		}
-		for i := range p.Flows {
-			f := q.Flows[i]
-			if f.From != p.Flows[i].From || f.To != p.Flows[i].To || !sameRoom(f.When, p.Flows[i].When, part) {
-				t.Fatalf("the flow %d of %v is changed", i, p)
-			}
-		}
-		if !sameAnswers(askProcess(q), want) {
+		if !sameAnswers(askAll(q, marks2, node, v2), want) {
 			t.Fatalf("the second results for %v differ", p)
 		}
+	}
+}
+
+// wantApart fails if lists share memory, for each of them is written over and then has to be as it was written.
+func wantApart(t *testing.T, what any, lists [][]int) {
+	t.Helper()
+	for i, list := range lists {
+		spoil(list, -100-i)
+	}
+	for i, list := range lists {
+		if slices.ContainsFunc(list[:cap(list)], func(n int) bool { return n != -100-i }) {
+			t.Fatalf("%v: the list %d shares memory with another one", what, i)
+		}
+	}
+}
+
+func TestListsOfTokensShareNoMemory(t *testing.T) {
+	r := newRandom(11)
+	for _, p := range tokenProcesses() {
+		marks, v := randomMarks(r, p), smallValues(r)
+		lists := [][]int{marks, v}
+		for node := range p.Nodes {
+			next, _ := impl.FireNode(p, marks, node, v)
+			lists = append(lists, next)
+		}
+		lists = append(lists, impl.FirstMarks(p), impl.FirstMarks(p), impl.ReadyNodes(p, marks), impl.ReadyNodes(p, marks))
+		for range 2 {
+			all, _ := impl.AllMarks(p)
+			lists = slices.Concat(lists, all, impl.StuckMarks(p), [][]int{impl.NeverReady(p)})
+		}
+		wantApart(t, p, lists)
 	}
 }
 
@@ -172,18 +252,25 @@ func TestEmptyAndNilAreTheSame(t *testing.T) {
 	if !sameAnswers(askCondition(nil, nil), askCondition([]impl.Part{}, []int{})) {
 		t.Error("an empty condition is not as none")
 	}
-	if !sameAnswers(askProcess(impl.Process{}), askProcess(impl.Process{Nodes: []impl.Node{}, Flows: []impl.Flow{}})) {
+	none := impl.Process{Nodes: []impl.Node{}, Flows: []impl.Flow{}}
+	if !sameAnswers(askAll(impl.Process{}, nil, 0, nil), askAll(none, []int{}, 0, []int{})) {
 		t.Error("an empty process is not as none")
 	}
-	for _, p := range someProcesses() {
+	for _, p := range tokenProcesses() {
 		q := copyProcess(p)
 		for i := range q.Flows {
 			if len(q.Flows[i].When) == 0 {
 				q.Flows[i].When = []impl.Part{}
 			}
 		}
-		if !sameAnswers(askProcess(p), askProcess(q)) {
+		marks := impl.FirstMarks(p)
+		node := impl.ReadyNodes(p, marks)
+		node = append(node, 0) // if there is none
+		if !sameAnswers(askAll(p, marks, node[0], zeros), askAll(q, marks, node[0], zeros)) {
 			t.Fatalf("empty conditions of %v are not as none", p)
+		}
+		if !sameAnswers(askAll(p, nil, node[0], nil), askAll(q, []int{}, node[0], []int{})) {
+			t.Fatalf("empty tokens and values of %v are not as none", p)
 		}
 	}
 }
@@ -193,6 +280,18 @@ func anyNumber(r *rand.Rand) int {
 		return extremes[r.IntN(len(extremes))]
 	}
 	return r.IntN(12) - 1
+}
+
+// anyNumbers returns numbers, often as many as told.
+func anyNumbers(r *rand.Rand, many int) []int {
+	if r.IntN(3) == 0 {
+		many = r.IntN(17)
+	}
+	var list []int
+	for range many {
+		list = append(list, anyNumber(r))
+	}
+	return list
 }
 
 func anyCondition(r *rand.Rand) []impl.Part {
@@ -208,10 +307,7 @@ func TestFunctionsReturnForEveryArgument(t *testing.T) {
 	r := newRandom(7)
 	for range 50000 {
 		c := anyCondition(r)
-		var v []int
-		for range r.IntN(7) {
-			v = append(v, anyNumber(r))
-		}
+		v := anyNumbers(r, impl.Variables)
 		if a := askCondition(c, v); a.valid != wantedValid(c) || a.value != wantedValue(c, v) {
 			t.Fatalf("conditions: %v with %v", c, v)
 		}
@@ -222,7 +318,7 @@ func TestFunctionsReturnForEveryArgument(t *testing.T) {
 		for range r.IntN(17) {
 			p.Flows = append(p.Flows, impl.Flow{From: anyNumber(r), To: anyNumber(r), When: anyCondition(r)})
 		}
-		askProcess(p)
+		askAll(p, anyNumbers(r, len(p.Flows)), anyNumber(r), v)
 		impl.FlowsOut(p, anyNumber(r))
 		impl.FlowsIn(p, anyNumber(r))
 		if _, want := wantedProcess(p); impl.ValidProcess(p) != want {
@@ -231,19 +327,38 @@ func TestFunctionsReturnForEveryArgument(t *testing.T) {
 	}
 }
 
+// TestTokenFunctionsReturnForEveryArgument fails by a panic, or by its time, if they do not for processes that are valid.
+func TestTokenFunctionsReturnForEveryArgument(t *testing.T) {
+	r := newRandom(12)
+	for _, p := range tokenProcesses() {
+		for range 10 {
+			marks, v := anyNumbers(r, len(p.Flows)), anyNumbers(r, impl.Variables)
+			node := anyNumber(r)
+			got, want := askTokens(p, marks, node, v), answers{value: wantedCount(p, marks)}
+			next, ok := wantedFire(p, marks, node, v)
+			want.ok = ok
+			want.lists = [][]int{wantedFirst(p), wantedReady(p, marks), {wantedChoice(p, node, v)}, next}
+			if !sameAnswers(got, want) {
+				t.Fatalf("%v with %v, %d, %v: %v, want %v", p, marks, node, v, got, want)
+			}
+		}
+	}
+}
+
 // TestCallsAtTheSameTime fails if a call keeps something for the next one, or for one beside it.
 func TestCallsAtTheSameTime(t *testing.T) {
-	list := someProcesses()[:200]
+	list := slices.Concat(someProcesses()[:100], blockProcesses()[:100])
+	ask := func(p impl.Process) answers { return askAll(p, impl.FirstMarks(p), p.Flows[0].To, zeros) }
 	want := make([]answers, len(list))
 	for i, p := range list {
-		want[i] = askProcess(p)
+		want[i] = ask(p)
 	}
 	var group sync.WaitGroup
 	for k := range 8 {
 		group.Go(func() {
 			for i := range list {
 				j := (i*7 + k*31) % len(list)
-				if !sameAnswers(askProcess(list[j]), want[j]) {
+				if !sameAnswers(ask(list[j]), want[j]) {
 					t.Errorf("results for %v differ", list[j])
 				}
 			}
