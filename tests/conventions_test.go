@@ -49,6 +49,8 @@ type answers struct {
 	ok    bool
 	parts []impl.Part
 	lists [][]int
+	// timers are those of each instance in the results.
+	timers [][]impl.Timer
 }
 
 func askCondition(c []impl.Part, v []int) answers {
@@ -102,11 +104,14 @@ func (a answers) spoil() {
 	for _, list := range a.lists {
 		spoil(list, -7)
 	}
+	for _, list := range a.timers {
+		spoil(list, impl.Timer{Node: -7, Due: -7})
+	}
 }
 
 // sameAnswers reports whether results are the same, where a nil slice is an empty one.
 func sameAnswers(a answers, b answers) bool {
-	return a.valid == b.valid && a.value == b.value && a.ok == b.ok && slices.Equal(a.parts, b.parts) && slices.EqualFunc(a.lists, b.lists, slices.Equal)
+	return a.valid == b.valid && a.value == b.value && a.ok == b.ok && slices.Equal(a.parts, b.parts) && slices.EqualFunc(a.lists, b.lists, slices.Equal) && slices.EqualFunc(a.timers, b.timers, slices.Equal)
 }
 
 // copied returns results that share no memory with others.
@@ -116,6 +121,10 @@ func (a answers) copied() answers {
 	b.lists = nil
 	for _, list := range a.lists {
 		b.lists = append(b.lists, slices.Clone(list))
+	}
+	b.timers = nil
+	for _, list := range a.timers {
+		b.timers = append(b.timers, slices.Clone(list))
 	}
 	return b
 }
@@ -321,6 +330,7 @@ func TestFunctionsReturnForEveryArgument(t *testing.T) {
 		askAll(p, anyNumbers(r, len(p.Flows)), anyNumber(r), v)
 		impl.FlowsOut(p, anyNumber(r))
 		impl.FlowsIn(p, anyNumber(r))
+		askRun(p, anyInstance(r, p), anyQuestion(r))
 		if _, want := wantedProcess(p); impl.ValidProcess(p) != want {
 			t.Fatalf("ValidProcess(%v) = %v", p, !want)
 		}
