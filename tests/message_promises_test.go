@@ -46,6 +46,22 @@ func withWaited(t *testing.T, f func(r *rand.Rand, x impl.Post, s impl.Sub, y im
 	}
 }
 
+// wantNoBadLetter fails if a letter with a name, a key and a time outside its range is sent.
+func wantNoBadLetter(t *testing.T, x impl.Post, name int, key int) {
+	t.Helper()
+	for _, until := range outside(impl.MaxClock) {
+		wantNotSent(t, "a time outside its range", x, letter(name, key, until))
+	}
+}
+
+// wantNoBadSub fails if an owner outside its range waits for a letter with a name and a key.
+func wantNoBadSub(t *testing.T, x impl.Post, name int, key int) {
+	t.Helper()
+	for _, owner := range outside(impl.MaxOwner) {
+		wantNotWaited(t, "an owner outside its range", x, sub(owner, name, key))
+	}
+}
+
 func TestPromise50NobodyWaitsForWhatIsThere(t *testing.T) {
 	shorter := 0
 	withPosts(t, func(r *rand.Rand, x impl.Post) {
@@ -73,6 +89,7 @@ func TestPromise50NobodyWaitsForWhatIsThere(t *testing.T) {
 
 func TestPromise51LettersAreNotLost(t *testing.T) {
 	withSent(t, func(r *rand.Rand, x impl.Post, l impl.Letter, y impl.Post, owner int) {
+		wantNoBadLetter(t, x, l.Name, l.Key)
 		if owner == -1 {
 			if !slices.Equal(y.Subs, x.Subs) || !slices.Equal(y.Letters, slices.Concat(x.Letters, []impl.Letter{l})) {
 				t.Fatalf("%v, which nobody gets, makes %v of %v", l, y, x)
@@ -91,9 +108,11 @@ func TestPromise51LettersAreNotLost(t *testing.T) {
 
 func TestPromise52LettersFindWhoWaitsLater(t *testing.T) {
 	withSent(t, func(r *rand.Rand, x impl.Post, l impl.Letter, y impl.Post, owner int) {
+		wantNoBadLetter(t, x, l.Name, l.Key)
 		if owner != -1 {
 			return
 		}
+		wantNoBadSub(t, y, l.Name, l.Key)
 		z, gets, ok := impl.WaitLetter(y, sub(r.IntN(impl.MaxOwner+1), l.Name, l.Key))
 		if !ok || !gets || len(z.Letters) != len(y.Letters)-1 || len(z.Subs) != len(y.Subs) {
 			t.Fatalf("who waits for %v in %v finds %v, %v, %v", l, y, z, gets, ok)
@@ -106,6 +125,7 @@ func TestPromise52LettersFindWhoWaitsLater(t *testing.T) {
 
 func TestPromise53WhoWaitsGetsOneLetter(t *testing.T) {
 	withWaited(t, func(r *rand.Rand, x impl.Post, s impl.Sub, y impl.Post, gets bool) {
+		wantNoBadSub(t, x, s.Name, s.Key)
 		if !gets {
 			if !slices.Equal(y.Letters, x.Letters) || !slices.Equal(y.Subs, slices.Concat(x.Subs, []impl.Sub{s})) {
 				t.Fatalf("%v, who gets none, makes %v of %v", s, y, x)
@@ -122,9 +142,11 @@ func TestPromise53WhoWaitsGetsOneLetter(t *testing.T) {
 func TestPromise54WhoWaitsFirstGetsFirst(t *testing.T) {
 	several := 0
 	withWaited(t, func(r *rand.Rand, x impl.Post, s impl.Sub, y impl.Post, gets bool) {
+		wantNoBadSub(t, x, s.Name, s.Key)
 		if gets {
 			return
 		}
+		wantNoBadLetter(t, y, s.Name, s.Key)
 		owners := append(waitsFor(x, s.Name, s.Key), s.Owner)
 		for i := range owners {
 			z, owner, ok := impl.SendLetter(y, letter(s.Name, s.Key, r.IntN(impl.MaxClock+1)))
@@ -174,6 +196,7 @@ func TestPromise140LettersGoToWhoWaitsForThem(t *testing.T) {
 	withPosts(t, func(r *rand.Rand, x impl.Post) {
 		for i := range 9 {
 			name, key := nameAndKey(i)
+			wantNoBadLetter(t, x, name, key)
 			owners := waitsFor(x, name, key)
 			_, owner, ok := impl.SendLetter(x, letter(name, key, r.IntN(impl.MaxClock+1)))
 			if len(owners) > 0 && (!ok || owner != owners[0]) {
@@ -221,6 +244,7 @@ func TestPromise166OneLetterIsForOne(t *testing.T) {
 			if !gets {
 				t.Fatalf("%v gets none of %d letters in %v", s, many, x)
 			}
+			wantNoBadSub(t, x, s.Name, s.Key)
 			again := sub(r.IntN(impl.MaxOwner+1), s.Name, s.Key)
 			z, more, ok := impl.WaitLetter(y, again)
 			if ok && more != (many > 1) {

@@ -33,7 +33,7 @@ func wantedPost(x impl.Post) bool {
 }
 
 func wantedSend(x impl.Post, l impl.Letter) (impl.Post, int, bool) {
-	if !wantedPost(x) {
+	if !wantedPost(x) || !wantedPost(letters(l)) {
 		return impl.Post{}, -1, false
 	}
 	first := -1
@@ -53,7 +53,7 @@ func wantedSend(x impl.Post, l impl.Letter) (impl.Post, int, bool) {
 }
 
 func wantedWait(x impl.Post, s impl.Sub) (impl.Post, bool, bool) {
-	if !wantedPost(x) {
+	if !wantedPost(x) || !wantedPost(subs(s)) {
 		return impl.Post{}, false, false
 	}
 	first := -1

@@ -158,15 +158,29 @@ func TestSendLetterToWhoWaits(t *testing.T) {
 	if want := (impl.Post{Subs: []impl.Sub{sub(5, 1, 8), sub(2, 2, 7)}, Letters: []impl.Letter{letter(1, 7, 9), letter(1, 7, 9)}}); !samePost(next, want) {
 		t.Errorf("five letters lead to %v, want %v", next, want)
 	}
-	// No letter is put anywhere, so that a full post office is no hindrance, nor is a time that no letter there may have.
+	// No letter is put anywhere, so that a full post office is no hindrance.
 	for i := range 10 {
 		full := fullPost()
 		want := copyPost(full)
 		want.Subs = slices.Delete(want.Subs, i, i+1)
 		wantSent(t, "a full post office", full, letter(i, 10*i, 50), want, i)
 	}
+}
+
+func TestSendBadLetterToWhoWaits(t *testing.T) {
+	one := subs(sub(3, 1, 7))
+	for _, l := range badLetters() {
+		wantNotSent(t, "a bad letter, one who waits", one, l)
+		wantNotSent(t, "a bad letter, several who wait", subs(sub(3, 1, 7), sub(4, 1, 7)), l)
+		wantNotSent(t, "a bad letter, one who waits beside others", impl.Post{Subs: []impl.Sub{sub(4, 2, 7), sub(3, 1, 7)}, Letters: []impl.Letter{letter(1, 8, 50)}}, l)
+	}
 	for _, until := range outside(9999) {
-		wantSent(t, "a time outside its range", one, letter(1, 7, until), letters(letter(1, 8, 50)), 3)
+		for i := range 10 {
+			wantNotSent(t, "a time outside its range, a full post office", fullPost(), letter(i, 10*i, until))
+		}
+	}
+	for _, until := range []int{0, 1, 9998, 9999} {
+		wantSent(t, "a time in its range", one, letter(1, 7, until), impl.Post{}, 3)
 	}
 }
 
@@ -210,15 +224,29 @@ func TestWaitLetterThatIsThere(t *testing.T) {
 	if want := (impl.Post{Subs: []impl.Sub{sub(3, 1, 7), sub(4, 1, 7)}, Letters: []impl.Letter{letter(1, 8, 1), letter(2, 7, 2)}}); !samePost(next, want) {
 		t.Errorf("five who wait lead to %v, want %v", next, want)
 	}
-	// No subscription is put anywhere, so that a full post office is no hindrance, nor is an owner that no subscription there may have.
+	// No subscription is put anywhere, so that a full post office is no hindrance.
 	for i := range 10 {
 		full := fullPost()
 		want := copyPost(full)
 		want.Letters = slices.Delete(want.Letters, i, i+1)
 		wantWaited(t, "a full post office", full, sub(9-i, i, 10*i+1), want, true)
 	}
+}
+
+func TestBadSubWaitsForLetterThatIsThere(t *testing.T) {
+	one := letters(letter(1, 7, 50))
+	for _, s := range badSubs() {
+		wantNotWaited(t, "a bad subscription, one letter", one, s)
+		wantNotWaited(t, "a bad subscription, several letters", letters(letter(1, 7, 50), letter(1, 7, 9)), s)
+		wantNotWaited(t, "a bad subscription, one letter beside others", impl.Post{Subs: []impl.Sub{sub(3, 1, 8)}, Letters: []impl.Letter{letter(2, 7, 50), letter(1, 7, 50), letter(3, 7, 50)}}, s)
+	}
 	for _, owner := range outside(9) {
-		wantWaited(t, "an owner outside its range", one, sub(owner, 1, 7), subs(sub(3, 1, 8)), true)
+		for i := range 10 {
+			wantNotWaited(t, "an owner outside its range, a full post office", fullPost(), sub(owner, i, 10*i+1))
+		}
+	}
+	for _, owner := range []int{0, 1, 8, 9} {
+		wantWaited(t, "an owner in its range", one, sub(owner, 1, 7), impl.Post{}, true)
 	}
 }
 
@@ -278,7 +306,7 @@ func TestDropLetters(t *testing.T) {
 
 // TestRandomPosts compares the functions for many post offices, valid or not, with what they have to be.
 func TestRandomPosts(t *testing.T) {
-	var gets, nobody, waits, failed int
+	var gets, nobody, waits, failed, badLetter, badSub int
 	withPosts(t, func(r *rand.Rand, x impl.Post) {
 		for range 3 {
 			if r.IntN(2) == 0 {
@@ -302,6 +330,8 @@ func TestRandomPosts(t *testing.T) {
 				t.Fatalf("WaitLetter(%v, %v) = %v, %v, %v, want %v, %v, %v", x, s, post, now, ok, wantPost, wantNow, wantOk)
 			}
 			waits += bit(ok && !now)
+			badLetter += bit(!wantedPost(letters(l)) && wantedPost(x) && len(waitsFor(x, l.Name, l.Key)) > 0)
+			badSub += bit(!wantedPost(subs(s)) && wantedPost(x) && len(liesFor(x, s.Name, s.Key)) > 0)
 			for _, at := range []int{l.Until, l.Until + 1, anyNumber(r), r.IntN(12)} {
 				if y, want := impl.DropLetters(x, at), wantedDrop(x, at); !samePost(y, want) {
 					t.Fatalf("DropLetters(%v, %d) = %v, want %v", x, at, y, want)
@@ -312,6 +342,9 @@ func TestRandomPosts(t *testing.T) {
 	if min(gets, nobody, waits, failed) < 1000 {
 		t.Errorf("%d letters that somebody gets, %d that nobody gets, %d who wait and %d failures test too little", gets, nobody, waits, failed)
 	}
+	if min(badLetter, badSub) < 100 {
+		t.Errorf("%d bad letters that somebody waits for, and %d bad subscriptions for what is there, test too little", badLetter, badSub)
+	}
 }
 
 // askedMail returns a letter and a subscription, some of which are not valid.
@@ -321,7 +354,7 @@ func askedMail(r *rand.Rand) (impl.Letter, impl.Sub) {
 	case 0:
 		l = impl.Letter{Name: anyNumber(r), Key: anyNumber(r), Until: anyNumber(r)}
 		s = impl.Sub{Owner: anyNumber(r), Name: anyNumber(r), Key: anyNumber(r)}
-	case 1:
+	case 1, 2, 3: // with a name and a key for which somebody may wait, or that may be there
 		l.Until, s.Owner = anyNumber(r), anyNumber(r)
 	}
 	return l, s
